@@ -1,0 +1,1 @@
+"""Pounds, locks and boats of a canal, and every unit of its water."""
