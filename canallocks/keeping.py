@@ -1,4 +1,4 @@
-"""The keeper's other calls: boats put in and lifted, water fed, pounds told."""
+"""The keeper's other calls: boats put in and lifted, water fed, what's there told."""
 
 from canallocks.state import BOATS, IN_LOCK, IN_POUND
 
@@ -42,3 +42,22 @@ def tell_pound(canal, number):
     if not canal.has_pound(number):
         return [-4]
     return [canal.waters[number], canal.boats_at(IN_POUND, number)]
+
+
+def tell_lock(canal, number):
+    """Tell whether a lock is full, and how many boats are in it."""
+    if not canal.has_lock(number):
+        return [-4]
+    return [canal.fulls[number], canal.boats_at(IN_LOCK, number)]
+
+
+def tell_boat(canal, boat):
+    """Tell whether a boat is in a pound or in a lock, and in which."""
+    if not canal.has_boat(boat):
+        return [-4]
+    return list(canal.places[boat])
+
+
+def tell_sum(canal):
+    """Tell all water there is, what has left and what has come in since begin."""
+    return [canal.all_water(), canal.gone, canal.fed]

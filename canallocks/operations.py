@@ -1,11 +1,48 @@
-"""The four kinds of operations: when each is refused, and what each does."""
+"""The four kinds of operations: when each is refused, what each does; moves, run."""
 
-from canallocks.state import IN_LOCK, IN_POUND
+from canallocks.state import BOATS, IN_LOCK, IN_POUND
 
 FILL = 0
 EMPTY = 1
 ENTER = 2
 LEAVE = 3
+
+MOST_TO_RUN = 100
+
+
+def every_operation(canal):
+    """List all operations on the canal's locks and on boats, in their order."""
+    locks = list(range(len(canal.volumes)))
+    fills = [(FILL, lock, 0) for lock in locks]
+    empties = [(EMPTY, lock, 0) for lock in locks]
+    enters = []
+    for boat in range(BOATS):
+        enters.extend([(ENTER, boat, lock) for lock in locks])
+    leaves = [(LEAVE, boat, 0) for boat in range(BOATS)]
+    return fills + empties + enters + leaves
+
+
+def moves(canal):
+    """List the operations that can be done now, in their order."""
+    return [each for each in every_operation(canal) if refusal(canal, each[0], each[1], each[2]) == 0]
+
+
+def tell_operations(operations):
+    """Tell how many operations these are, and three numbers for each."""
+    told = [len(operations)]
+    for operation in operations:
+        told.extend(operation)
+    return told
+
+
+def run(canal, numbers):
+    """Do operations, three numbers each, up to the first that can't be; tell how many."""
+    if len(numbers) % 3 != 0 or len(numbers) // 3 > MOST_TO_RUN:
+        return -1
+    for at in range(0, len(numbers), 3):
+        if do_operation(canal, numbers[at], numbers[at + 1], numbers[at + 2]) < 0:
+            return at // 3
+    return len(numbers) // 3
 
 
 def do_operation(canal, kind, a, b):

@@ -2,7 +2,8 @@
 
 BOATS = 4
 
-# A boat's place is one of these two with the pound's or the lock's number.
+# A boat's place is one of these two with the pound's or the lock's number; both
+# are answered as they stand.
 IN_POUND = 0
 IN_LOCK = 1
 
@@ -43,6 +44,28 @@ class Canal:
         if self.fulls[lock] == 1:
             return lock
         return lock + 1
+
+    def all_water(self):
+        """Tell how much water is in the pounds and in the full locks."""
+        in_locks = [volume * full for volume, full in zip(self.volumes, self.fulls)]
+        return sum(self.waters) + sum(in_locks)
+
+    def basin(self):
+        """Tell the water and the locks, as a value that stays as it is."""
+        return (tuple(self.waters), tuple(self.fulls))
+
+    def stand(self):
+        """Tell the water, the locks and the boats, as a value that stays as it is."""
+        return (self.basin(), tuple(self.places))
+
+    def dry_twin(self):
+        """Make a canal with the same bounds, whose water, locks and boats are still to be set."""
+        other = Canal()
+        other.leasts = list(self.leasts)
+        other.mosts = list(self.mosts)
+        other.volumes = list(self.volumes)
+        other.rooms = list(self.rooms)
+        return other
 
     def pour(self, pound, water):
         """Pour water into a pound; tell how much of it leaves the canal."""

@@ -3,7 +3,9 @@
 import unittest
 
 from canallocks.canal import answers
-from helper import CanalTest, begin, boat, do, feed, fill, lift, pound
+from helper import (
+    HUGE, CanalTest, begin, boat, do, feed, fill, lift, lock, moves, plan, pound, run, run_numbers, total, where,
+)
 
 CALLS = (
     [0, 6, 0, 10, 5, 1, 10, 9, 3, 3, 2, 1]
@@ -16,8 +18,40 @@ CALLS = (
     + [4, 7]
     + [5, 9]
     + [2, 2]
+    + [6, 0]
+    + [7, 2]
+    + [8]
+    + [1, 1, 0]
+    + [9]
+    + [10, 1, 0, 2, 0, 0]
+    + [11, 15, 0, 0, 0, 2, 1, 0, 1, 0, 7, 3, 1, 7, 1, 0, 0]
+    + [7, 1]
+    + [6, 0]
+    + [8]
+    + [10, 0, 0, 1, 0, 0]
+    + [10, 1, 1, 0, 0, 0]
+    + [10, 1, 0, 3, 0, 0]
+    + [11, 2, 0, 0]
+    + [9]
 )
-ANSWERS = [1, 0] + [2, 5, 0] + [1, 0] + [1, 0] + [1, 2] + [1, 1] + [2, 10, 1] + [1, 2] + [1, -4] + [1, 0]
+ANSWERS = (
+    [1, 0] + [2, 5, 0] + [1, 0] + [1, 0] + [1, 2] + [1, 1] + [2, 10, 1] + [1, 2] + [1, -4] + [1, 0]
+    + [2, 0, 0]
+    + [1, -4]
+    + [3, 20, 4, 7]
+    + [1, 0]
+    + [4, 1, 0, 0, 0]
+    + [14, 3, 4, 0, 0, 0, 2, 1, 0, 1, 0, 0, 3, 1, 0]
+    + [1, 4]
+    + [2, 0, 1]
+    + [2, 0, 0]
+    + [3, 17, 7, 7]
+    + [11, 0, 3, 2, 1, 0, 0, 0, 0, 3, 1, 0]
+    + [1, -3]
+    + [1, -1]
+    + [1, -1]
+    + [7, 2, 0, 0, 0, 2, 1, 0]
+)
 
 
 class Form(CanalTest):
@@ -28,11 +62,21 @@ class Form(CanalTest):
         self.assertEqual(answers([5, 0]), [1, -4])
         self.assertEqual(answers([0, 0, 0]), [1, -1])
         self.assertEqual(answers([4, 0]), [1, -4])
+        self.assertEqual(answers([6, 0]), [1, -4])
+        self.assertEqual(answers([7, 0]), [1, -4])
+        self.assertEqual(answers([8]), [3, 0, 0, 0])
+        self.assertEqual(answers([9]), [1, 0])
+        self.assertEqual(answers([10, 0, 0, 0, 0, 0]), [2, 0, 0])
+        self.assertEqual(answers([11, 0]), [1, 0])
 
     def test_rows_that_are_refused_are_still_read_to_their_end(self):
         self.assertEqual(answers([0, 4, 1, 2, 3, 4, 2, 5, 6, 5, 0]), [1, -1, 1, -4])
         self.assertEqual(answers([0, 0, 2, 5, 6, 5, 0]), [1, -1, 1, -4])
         self.assertEqual(answers([0, 1, 5, 0, 5, 0]), [1, -1, 1, -4])
+        self.assertEqual(answers([11, 4, 1, 2, 3, 4, 5, 0]), [1, -1, 1, -4])
+        self.assertEqual(answers([11, 303] + [9] * 303 + [8]), [1, -1, 3, 0, 0, 0])
+        self.assertEqual(answers([11, 6, 9, 9, 9, 9, 9, 9, 8]), [1, 0, 3, 0, 0, 0])
+        self.assertEqual(answers([10, 2, 9, 9, 9, 9, 8]), [1, -1, 3, 0, 0, 0])
 
     def test_four_hundred_calls(self):
         calls = list(CALLS[:12])
@@ -66,8 +110,8 @@ class Form(CanalTest):
         self.assertEqual(answers(Frozen(CALLS)), ANSWERS)
 
     def test_nothing_is_kept_from_one_time_to_the_next(self):
-        new_object = [5, 0, 2, 2, 3, 1, 0, 0, 4, 1]
-        refused = [1, -4, 1, -4, 1, -4, 1, -4]
+        new_object = [5, 0, 2, 2, 3, 1, 0, 0, 4, 1, 6, 0, 7, 1, 8, 9, 10, 1, 0, 1, 0, 0, 11, 3, 0, 0, 0]
+        refused = [1, -4, 1, -4, 1, -4, 1, -4, 1, -4, 1, -4, 3, 0, 0, 0, 1, 0, 1, -1, 1, 0]
         self.assertEqual(answers(new_object), refused)
         self.assertEqual(answers(CALLS), ANSWERS)
         self.assertEqual(answers(new_object), refused)
@@ -87,6 +131,42 @@ class NewObject(CanalTest):
             (feed(1), -4),
             (begin([], []), -1),
             (fill(0), -4),
+            (lock(0), -4),
+            (where(0), -4),
+            (total(), [0, 0, 0]),
+            (moves(), [0]),
+            (plan(0), [0, 0]),
+            (plan(1), [0, 0]),
+            (plan(1, 0, 1), -1),
+            (run(), 0),
+            (run((0, 0, 0), (1, 0, 0)), 0),
+        )
+
+
+class HighNumbers(CanalTest):
+    CANAL = begin([0, 10, 5, 1, 10, 9], [3, 2, 1])
+
+    def test_the_highest_number_in_every_place(self):
+        calls = [
+            (boat(HUGE, 0), -1), (boat(0, HUGE), -4), (lift(HUGE), -4), (do(HUGE, 0, 0), -4), (do(0, HUGE, 0), -4),
+            (do(2, 1, HUGE), -4), (do(2, HUGE, 0), -4), (do(1, HUGE, HUGE), -4), (do(3, HUGE, 0), -4), (feed(HUGE), -1),
+            (pound(HUGE), -4), (lock(HUGE), -4), (where(HUGE), -4), (plan(HUGE), -1), (plan(0, HUGE), -1),
+            (plan(1, 0, HUGE), -1), (plan(1, 0, 0, HUGE), -1), (plan(1, 0, 0, 0, HUGE), -1), (plan(HUGE, *[HUGE] * 4), -1),
+            (run((HUGE, HUGE, HUGE)), 0), (run((0, HUGE, 0)), 0), (run((2, 1, HUGE)), 0), (run_numbers([HUGE]), -1),
+        ]
+        for place in range(6):
+            numbers = [0, 10, 5, 1, 10, 9]
+            numbers[place] = HUGE
+            calls.append((begin(numbers, [3, 2, 1]), -1))
+        for place in range(3):
+            numbers = [3, 2, 1]
+            numbers[place] = HUGE
+            calls.append((begin([0, 10, 5, 1, 10, 9], numbers), -1))
+        self.plays((self.CANAL, 0), (boat(1, 0), 0), *calls, (total(), [17, 0, 0]), (where(1), [0, 0]))
+
+    def test_the_highest_number_where_it_plays_no_part(self):
+        self.plays(
+            (self.CANAL, 0), (boat(1, 0), 0), (do(1, 0, HUGE), 2), (run((0, 0, HUGE), (2, 1, 0), (3, 1, HUGE)), 3),
         )
 
 

@@ -2,11 +2,7 @@
 
 import unittest
 
-from canallocks.building import begin as begin_canal
-from canallocks.keeping import feed as feed_canal
-from canallocks.operations import do_operation
-from canallocks.state import Canal
-from helper import HUGE, CanalTest, ask, begin, boat, empty, enter, feed, fill, lift, pound, pounds
+from helper import HUGE, CanalTest, ask, begin, boat, empty, enter, feed, fill, lift, pound, pounds, total
 
 POUND = [0, 10, 5]
 LOCK = [2, 1, 0]
@@ -53,7 +49,8 @@ class Sizes(CanalTest):
         )
 
     def test_long_lists(self):
-        self.plays((begin([1] * 14000, [1] * 13999), -1), (begin(POUND * 4666, LOCK * 4665), -1))
+        self.plays((begin([1] * 14000, [1] * 13999), -1))
+        self.plays((begin(POUND * 4666, LOCK * 4665), -1))
 
 
 class Numbers(CanalTest):
@@ -183,38 +180,25 @@ class Again(CanalTest):
         self.plays((begin(POUND * 2, LOCK * 2), -1), (pound(0), -4), (fill(0), -4), (feed(0), -4))
 
 
-class Account(unittest.TestCase):
-    """No call tells yet what has come in and left since begin, but it is kept."""
-
-    def account(self, canal):
-        return (canal.gone, canal.fed)
-
+class Account(CanalTest):
     def test_since_begin(self):
-        canal = Canal()
-        self.assertEqual(self.account(canal), (0, 0))
-        self.assertEqual(begin_canal(canal, [0, 10, 5, 0, 10, 10], [2, 1, 1]), 0)
-        self.assertEqual(self.account(canal), (0, 0))
-        self.assertEqual(feed_canal(canal, 4), 0)
-        self.assertEqual(self.account(canal), (0, 4))
-        self.assertEqual(do_operation(canal, 1, 0, 0), 2)
-        self.assertEqual(self.account(canal), (2, 4))
-        self.assertEqual(feed_canal(canal, 7), 6)
-        self.assertEqual(self.account(canal), (8, 11))
-        self.assertEqual(feed_canal(canal, 10001), -1)
-        self.assertEqual(begin_canal(canal, [], []), -1)
-        self.assertEqual(self.account(canal), (8, 11))
-        self.assertEqual(begin_canal(canal, [0, 10, 5, 0, 10, 10], [2, 1, 1]), 0)
-        self.assertEqual(self.account(canal), (0, 0))
-
-    def test_the_numbers_of_begin_are_copied(self):
-        canal = Canal()
-        pound_numbers = [0, 10, 5, 0, 10, 10]
-        lock_numbers = [2, 1, 1]
-        begin_canal(canal, pound_numbers, lock_numbers)
-        do_operation(canal, 1, 0, 0)
-        feed_canal(canal, 3)
-        self.assertEqual(pound_numbers, [0, 10, 5, 0, 10, 10])
-        self.assertEqual(lock_numbers, [2, 1, 1])
+        canal = begin([0, 10, 5, 0, 10, 10], [2, 1, 1])
+        self.plays(
+            (total(), [0, 0, 0]),
+            (canal, 0),
+            (total(), [17, 0, 0]),
+            (feed(4), 0),
+            (total(), [21, 0, 4]),
+            (empty(0), 2),
+            (total(), [19, 2, 4]),
+            (feed(7), 6),
+            (total(), [20, 8, 11]),
+            (feed(10001), -1),
+            (begin([], []), -1),
+            (total(), [20, 8, 11]),
+            (canal, 0),
+            (total(), [17, 0, 0]),
+        )
 
 
 if __name__ == "__main__":

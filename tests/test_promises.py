@@ -1,135 +1,132 @@
-"""The promises, over many rows of calls on many canals."""
+"""The promises, over many long rows of calls on many canals."""
 
 import unittest
 
 from helper import (
-    BEGIN, BOAT, DO, EMPTY, ENTER, FEED, FILL, LEAVE, LIFT, POUND, ask, begin, boat, do, feed, lift, pounds,
+    BEGIN, DO, EMPTY, FEED, LOCK, MOVES, PLAN, POUND, RUN, SUM, WHERE, Numbers, ask, begin, boat, do, everything, feed,
+    flat, lift, lock, moves, plan, pound, run_numbers, some_canal, total, where,
 )
 
-
-class Numbers:
-    """The same row of numbers each time, each below what is asked."""
-
-    def __init__(self, seed):
-        self.seed = seed
-
-    def below(self, limit):
-        self.seed = (self.seed * 6364136223846793005 + 1442695040888963407) % 2 ** 64
-        return (self.seed >> 33) % limit
+ASKING = (POUND, LOCK, WHERE, SUM, MOVES, PLAN)
 
 
-def some_canal(numbers):
-    """A canal of 2 to 6 pounds: its pounds in threes, its locks in threes."""
-    pound_numbers = []
-    lock_numbers = []
-    for _ in range(2 + numbers.below(5)):
-        least = numbers.below(5)
-        most = least + numbers.below(25)
-        pound_numbers.append((least, most, least + numbers.below(most - least + 1)))
-        lock_numbers.append((1 + numbers.below(9), 1 + numbers.below(4), numbers.below(2)))
-    return pound_numbers, lock_numbers[1:]
+def some_run(numbers):
+    """A row of operations, now and then not in threes or too long."""
+    length = 3 * numbers.below(12)
+    if numbers.below(8) == 0:
+        length += 1 + numbers.below(400)
+    return run_numbers([numbers.below(5) for _ in range(length)])
 
 
-def flat(threes):
-    return [number for three in threes for number in three]
-
-
-def some_call(numbers):
-    """A call that is often, but not always, refused."""
-    choice = numbers.below(20)
-    if choice < 3:
+def some_change(numbers, own_begin):
+    """A call that changes something, if it's not refused, as it often is."""
+    choice = numbers.below(100)
+    if choice < 20:
         return boat(numbers.below(5), numbers.below(6))
-    if choice == 3:
+    if choice < 25:
         return lift(numbers.below(5))
-    if choice == 4:
+    if choice < 31:
         return feed(10001 if numbers.below(8) == 0 else numbers.below(15))
+    if choice < 42:
+        return some_run(numbers)
+    if choice < 44:
+        return own_begin[:-1] + [2]
     return do(numbers.below(5), numbers.below(5), numbers.below(5))
 
 
-class Model:
-    """What the answers so far say of the canal, told by them alone."""
+def some_question(numbers):
+    """A call that only asks, but plan."""
+    simple = (pound(numbers.below(7)), lock(numbers.below(6)), where(numbers.below(5)), total(), moves())
+    return simple[numbers.below(len(simple))]
 
-    def __init__(self, pound_numbers, lock_numbers):
-        self.pounds = pound_numbers
-        self.locks = lock_numbers
-        self.full = [three[2] for three in lock_numbers]
-        self.there = sum(three[2] for three in pound_numbers) + self.in_locks()
-        self.in_lock = {}
-        self.boats = set()
-        self.come = 0
-        self.left = 0
 
-    def in_locks(self):
-        return sum(three[0] for three, full in zip(self.locks, self.full) if full)
+def some_plan(numbers):
+    return plan(numbers.below(3), *[numbers.below(4) for _ in range(4)])
 
-    def hear(self, call, told):
-        """Take in one call that was not refused, and its answer."""
-        if call[0] == BOAT:
-            self.boats.add(call[1])
-        elif call[0] == LIFT:
-            self.boats.remove(call[1])
-        elif call[0] == FEED:
-            self.come += call[1]
-            self.left += told
-        elif call[1] == FILL:
-            self.full[call[2]] = 1
-        elif call[1] == EMPTY:
-            self.full[call[2]] = 0
-            self.left += told
-        elif call[1] == ENTER:
-            self.in_lock[call[2]] = call[3]
-        elif call[1] == LEAVE:
-            del self.in_lock[call[2]]
+
+def some_case(seed, length, plans=0):
+    """A canal and calls on it that change and that ask, some of them plan."""
+    numbers = Numbers(seed)
+    canal = some_canal(numbers)
+    own_begin = begin(flat(canal[0]), flat(canal[1]))
+    calls = [own_begin]
+    while len(calls) < length:
+        calls.append(some_change(numbers, own_begin))
+        if numbers.below(3) == 0:
+            calls.append(some_question(numbers))
+        if numbers.below(length) < plans:
+            calls.append(some_plan(numbers))
+    return canal, calls
 
 
 class Promises(unittest.TestCase):
-    def check(self, model, told):
-        """Compare what the call pound told of each pound with the model."""
-        waters = [answer[0] for answer in told]
-        self.assertEqual(sum(waters) + model.in_locks() + model.left, model.there + model.come)
-        for water, three in zip(waters, model.pounds):
-            self.assertTrue(three[0] <= water <= three[1])
-        for number, three in enumerate(model.locks):
-            self.assertLessEqual(list(model.in_lock.values()).count(number), three[1])
-        self.assertEqual(sum(answer[1] for answer in told), len(model.boats) - len(model.in_lock))
-
     def test_water_and_boats_are_accounted_for(self):
-        for seed in range(120):
-            numbers = Numbers(seed)
-            pound_numbers, lock_numbers = some_canal(numbers)
-            asking = pounds(len(pound_numbers))
-            calls = [begin(flat(pound_numbers), flat(lock_numbers))] + asking
-            for _ in range(150):
-                calls += [some_call(numbers)] + asking
+        """Promises 1 and 2 behind every call, and promise 4: all there is to ask, before and after."""
+        for seed in range(40):
+            canal, calls = some_case(seed, 150)
             told = ask(calls)
-            model = Model(pound_numbers, lock_numbers)
-            before = told[1:1 + len(asking)]
-            self.check(model, before)
-            for at in range(1 + len(asking), len(calls), 1 + len(asking)):
-                after = told[at + 1:at + 1 + len(asking)]
-                if told[at][0] < 0:
-                    self.assertEqual(after, before)
-                else:
-                    model.hear(calls[at], told[at][0])
-                self.check(model, after)
+            before = None
+            for at in range(len(calls)):
+                given = ask(calls[:at + 1] + everything())
+                self.assertEqual(given[:at + 1], told[:at + 1])
+                after = given[at + 1:]
+                if at > 0 and (told[at][0] < 0 or calls[at][0] in ASKING):
+                    self.assertEqual(after, before, calls[:at + 1])
+                elif at > 0:
+                    self.check_account(calls[at], told[at], before, after)
+                self.check(canal, after)
                 before = after
 
-    def test_what_is_refused_and_what_only_asks_changes_nothing(self):
+    def test_plan_leaves_all_there_is_to_ask_as_it_is(self):
+        told = 0
+        for seed in range(60):
+            calls = some_case(2000 + seed, 60)[1]
+            asked = some_plan(Numbers(seed))
+            given = ask(calls + everything() + [asked] + everything())[len(calls):]
+            self.assertEqual(given[:20], given[21:])
+            told += given[20][0] >= 0
+        self.assertGreater(told, 3)
+
+    def check(self, canal, asked):
+        """What everything() answers fits itself and the canal's bounds."""
+        pounds, locks = canal
+        of_pounds, of_locks, of_boats = asked[:7], asked[7:13], asked[13:18]
+        water, gone, fed = asked[18]
+        for three, told in zip(pounds, of_pounds):
+            self.assertTrue(three[0] <= told[0] <= three[1])
+        for three, told in zip(locks, of_locks):
+            self.assertTrue(told[0] in (0, 1) and 0 <= told[1] <= three[1])
+        for told in of_pounds[len(pounds):] + of_locks[len(locks):]:
+            self.assertEqual(told, [-4])
+        for number, told in enumerate(of_pounds[:len(pounds)]):
+            self.assertEqual(told[1], of_boats.count([0, number]))
+        for number, told in enumerate(of_locks[:len(locks)]):
+            self.assertEqual(told[1], of_boats.count([1, number]))
+        in_locks = sum(three[0] * told[0] for three, told in zip(locks, of_locks))
+        self.assertEqual(water, sum(told[0] for told in of_pounds[:len(pounds)]) + in_locks)
+        at_first = sum(three[2] for three in pounds) + sum(three[0] * three[2] for three in locks)
+        self.assertEqual(water + gone, at_first + fed)
+
+    def check_account(self, call, told, before, after):
+        """Sum goes on by what has just come in and has just been told to leave."""
+        gone = after[18][1] - before[18][1]
+        fed = after[18][2] - before[18][2]
+        self.assertEqual(fed, call[1] if call[0] == FEED else 0)
+        if call[0] == FEED or call[:2] == [DO, EMPTY]:
+            self.assertEqual(gone, told[0])
+        elif call[0] == RUN:
+            self.assertGreaterEqual(gone, 0)
+        else:
+            self.assertEqual(gone, 0)
+
+    def test_what_is_refused_and_what_only_asks_can_be_left_out(self):
         done = 0
-        for seed in range(120):
-            numbers = Numbers(1000 + seed)
-            pound_numbers, lock_numbers = some_canal(numbers)
-            calls = [begin(flat(pound_numbers), flat(lock_numbers))]
-            for _ in range(300):
-                calls.append(some_call(numbers))
-                if numbers.below(4) == 0:
-                    calls.append([POUND, numbers.below(7)])
-                if numbers.below(30) == 0:
-                    calls.append(begin(flat(pound_numbers), flat(lock_numbers)[1:]))
+        for seed in range(70):
+            calls = some_case(1000 + seed, 250, plans=4)[1]
             pairs = list(zip(calls, ask(calls)))
-            kept = [(call, told) for call, told in pairs if told[0] >= 0 and call[0] != POUND]
+            kept = [(call, told) for call, told in pairs if told[0] >= 0 and call[0] not in ASKING]
             self.assertEqual(ask([call for call, _ in kept]), [told for _, told in kept])
-            done += len([call for call, _ in kept if call[0] in (DO, BEGIN)])
+            done += len([call for call, _ in kept if call[0] in (DO, RUN, BEGIN)])
         self.assertGreater(done, 2000)
 
 
